@@ -4,7 +4,7 @@ import (
 	"scanfail/api"
 	"scanfail/check"
 	"scanfail/numbers"
-	"scanfail/pats"
+	"scanfail/world"
 )
 
 // value is what an expression has, unless it fails.
@@ -23,16 +23,16 @@ func (r *runner) value(x *api.Expr) (string, bool) {
 		if !ok {
 			return "", false
 		}
-		return r.read(p)
+		return r.Read(p)
 	case api.ExCall:
 		if check.Builtin(x.Name) < 0 {
-			return r.call(&r.program[r.functions[x.Name]], kids)
+			return r.call(x.Name, kids)
 		}
-		return makes(x.Name, kids)
+		return world.Makes(x.Name, kids)
 	case api.ExNeg:
-		return two(api.ExSub, "0", kids[0])
+		return world.Two(api.ExSub, "0", kids[0])
 	}
-	return two(x.Kind, kids[0], kids[1])
+	return world.Two(x.Kind, kids[0], kids[1])
 }
 
 // values are what expressions have, unless one fails: those behind it are not worked out then.
@@ -49,33 +49,21 @@ func (r *runner) values(l []api.Expr) ([]string, bool) {
 }
 
 // place is the one that a target stands for, unless that fails.
-func (r *runner) place(target *api.Expr) (place, bool) {
+func (r *runner) place(target *api.Expr) (world.Place, bool) {
 	kids, ok := r.values(target.Kids)
 	if !ok {
-		return place{}, false
+		return world.Place{}, false
 	}
 	return placeOf(target, kids)
 }
 
 // placeOf is the place of ExName, ExItem or ExIndirect whose kids have these texts.
-func placeOf(x *api.Expr, kids []string) (place, bool) {
+func placeOf(x *api.Expr, kids []string) (world.Place, bool) {
 	switch x.Kind {
 	case api.ExItem:
-		return itemOf(x.Name, kids[0]), true
+		return world.ItemOf(x.Name, kids[0]), true
 	case api.ExIndirect:
-		return variable(kids[0]), pats.Named(kids[0])
+		return world.Named(kids[0])
 	}
-	return variable(x.Name), true
-}
-
-// two is what the kind of an expression makes of its two kids' texts.
-func two(kind int, a, b string) (string, bool) {
-	if kind == api.ExCat {
-		if len(a)+len(b) > api.MaxText {
-			return "", false
-		}
-		return a + b, true
-	}
-	l := arguments{texts: []string{a, b}}
-	return l.right(l.reckon(kind))
+	return world.Variable(x.Name), true
 }

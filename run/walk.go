@@ -1,49 +1,32 @@
 package run
 
 import (
-	"slices"
-
 	"scanfail/api"
+	"scanfail/world"
 )
 
 // runner goes through a program; a call within an expression is a walk within the walk.
 type runner struct {
-	world
-	patterns
-	program           []api.Statement
-	labels, functions map[string]int // at which statement a label stands, and which one defines a function
-	open              int            // calls
-}
-
-func newRunner(l []api.Statement, input []string, limit int) *runner {
-	r := &runner{world: newWorld(len(l), input, limit), patterns: newPatterns(l), program: l, labels: map[string]int{}, functions: map[string]int{}}
-	for at, s := range l {
-		if s.Label != "" {
-			r.labels[s.Label] = at
-		}
-		if s.Kind == api.StDefine {
-			r.functions[s.Name] = at
-		}
-	}
-	return r
+	world.World
+	program []api.Statement
 }
 
 // begin runs the program. Where it comes back it went to RETURN or FRETURN outside of all calls.
 func (r *runner) begin() {
 	r.walk(0)
-	if !r.over() {
-		r.end(api.RanEnd)
+	if !r.Over() {
+		r.End(api.RanEnd)
 	}
 }
 
 // walk runs from a statement on, until it goes to RETURN or FRETURN, or the run ends; it tells whether it went to RETURN.
 func (r *runner) walk(at int) bool {
 	for at < len(r.program) {
-		if !r.come(at) {
+		if !r.Come(at) {
 			return false
 		}
 		succeeded := r.do(at)
-		if r.over() {
+		if r.Over() {
 			return false
 		}
 		switch label := leads(&r.program[at], succeeded); label {
@@ -56,10 +39,10 @@ func (r *runner) walk(at int) bool {
 		case "END":
 			at = len(r.program)
 		default:
-			at = r.labels[label]
+			at = r.Labelled(label)
 		}
 	}
-	r.end(api.RanEnd)
+	r.End(api.RanEnd)
 	return false
 }
 
@@ -82,13 +65,13 @@ func (r *runner) do(at int) bool {
 		_, ok := r.value(&s.Value)
 		return ok
 	case api.StRule:
-		r.named[s.Name] = at
+		r.Rule(at)
 	case api.StAssign:
 		return r.assign(s)
 	case api.StMatch:
 		subject, ok := r.value(&s.Value)
 		if ok {
-			_, ok = r.match(at, subject)
+			_, ok = r.Match(at, subject)
 		}
 		return ok
 	case api.StReplace:
@@ -103,7 +86,7 @@ func (r *runner) assign(s *api.Statement) bool {
 		return false
 	}
 	text, ok := r.value(&s.Value)
-	return ok && r.give(p, text)
+	return ok && r.Give(p, text)
 }
 
 func (r *runner) replace(at int) bool {
@@ -112,52 +95,28 @@ func (r *runner) replace(at int) bool {
 	if !ok {
 		return false
 	}
-	subject, ok := r.read(p)
+	subject, ok := r.Read(p)
 	if !ok {
 		return false
 	}
-	m, ok := r.match(at, subject)
+	m, ok := r.Match(at, subject)
 	if !ok {
 		return false
 	}
 	text, ok := r.value(&s.Value)
-	return ok && r.give(p, subject[:m.From]+text+subject[m.To:])
+	return ok && r.Give(p, subject[:m.From]+text+subject[m.To:])
 }
 
 // call is the result of a function that the program defines.
-func (r *runner) call(define *api.Statement, args []string) (string, bool) {
-	if r.open == api.MaxCalls {
+func (r *runner) call(name string, args []string) (string, bool) {
+	entry, ok := r.Enter(name, args)
+	if !ok {
 		return "", false
 	}
-	own := slices.Concat(define.Params, define.Locals, []string{define.Name})
-	aside := make([]string, len(own))
-	given := make([]string, len(own)) // Params are the first ones: arguments stand at the same places
-	copy(given, args)
-	for i, name := range own {
-		aside[i] = r.has(variable(name))
-	}
-	if !r.giveAll(own, given) {
+	succeeded := r.walk(entry)
+	if r.Over() {
 		return "", false
 	}
-	r.open++
-	succeeded := r.walk(r.labels[define.Entry])
-	r.open--
-	if r.over() {
-		return "", false
-	}
-	result := r.has(variable(define.Name))
-	if !r.giveAll(own, aside) || !succeeded {
-		return "", false
-	}
-	return result, true
-}
-
-// giveAll gives each variable the text at its place. It fails if that ends the run.
-func (r *runner) giveAll(names, texts []string) bool {
-	for i, name := range names {
-		if !r.give(variable(name), texts[i]) {
-			return false
-		}
-	}
-	return true
+	result, ok := r.Leave()
+	return result, ok && succeeded
 }

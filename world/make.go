@@ -1,4 +1,4 @@
-package run
+package world
 
 import (
 	"scanfail/api"
@@ -57,8 +57,20 @@ func (a *arguments) reckon(kind int) (string, bool) {
 	return asNumber(numbers.Rem(m, n))
 }
 
-// makes is what a function of the language makes of texts, as many as it takes.
-func makes(name string, l []string) (string, bool) {
+// Two is what the kind of an expression makes of its two kids' texts.
+func Two(kind int, a, b string) (string, bool) {
+	if kind == api.ExCat {
+		if len(a)+len(b) > api.MaxText {
+			return "", false
+		}
+		return a + b, true
+	}
+	l := arguments{texts: []string{a, b}}
+	return l.right(l.reckon(kind))
+}
+
+// Makes is what a function of the language makes of texts, as many as it takes.
+func Makes(name string, l []string) (string, bool) {
 	a := arguments{texts: l}
 	switch name {
 	case "SIZE", "TRIM", "REVERSE", "REPLACE", "COUNT", "DUPL", "ROTATE", "SUBSTR", "LPAD", "RPAD":

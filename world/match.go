@@ -1,4 +1,4 @@
-package run
+package world
 
 import (
 	"scanfail/api"
@@ -48,46 +48,49 @@ func (p *patterns) reach(at int) ([]string, bool) {
 	return out, true
 }
 
+// Rule gives a statement's pattern its name, from now on.
+func (w *World) Rule(at int) { w.named[w.program[at].Name] = at }
+
 // rules are those of a match of a statement's pattern. It fails if they are too many.
-func (r *runner) rules(at int) ([]api.Rule, bool) {
-	names, ok := r.reach(at)
+func (w *World) rules(at int) ([]api.Rule, bool) {
+	names, ok := w.reach(at)
 	if !ok {
 		return nil, false
 	}
 	out := make([]api.Rule, len(names))
 	for i, name := range names {
-		if rule, ok := r.named[name]; ok {
-			out[i] = api.Rule{Name: name, Pat: r.program[rule].Pat}
+		if rule, ok := w.named[name]; ok {
+			out[i] = api.Rule{Name: name, Pat: w.program[rule].Pat}
 		} else {
-			out[i] = api.Rule{Name: name, Pat: api.Pat{Kind: api.PatLit, Text: r.has(variable(name))}}
+			out[i] = api.Rule{Name: name, Pat: api.Pat{Kind: api.PatLit, Text: w.has(Variable(name))}}
 		}
 	}
 	return out, true
 }
 
-// match looks for a statement's pattern in a text. It fails if nothing is found.
-func (r *runner) match(at int, subject string) (api.Match, bool) {
-	rules, ok := r.rules(at)
+// Match looks for a statement's pattern in a text. It fails if nothing is found.
+func (w *World) Match(at int, subject string) (api.Match, bool) {
+	rules, ok := w.rules(at)
 	if !ok {
 		return api.Match{}, false
 	}
-	m, err := scan.Match(rules, r.program[at].Pat, subject, false, r.limit-r.steps)
+	m, err := scan.Match(rules, w.program[at].Pat, subject, false, w.limit-w.steps)
 	if err == api.ErrFuel {
-		r.steps = r.limit
-		r.end(api.RanLimit)
+		w.steps = w.limit
+		w.End(api.RanLimit)
 	}
 	if err != api.OK {
 		return api.Match{}, false
 	}
-	r.steps += m.Ticks
-	return m, r.hand(m.Said) && r.hand(m.Given) && m.Found
+	w.steps += m.Ticks
+	return m, w.hand(m.Said) && w.hand(m.Given) && m.Found
 }
 
 // hand gives variables what a match has for them; what can't be given is left. It fails if that ends the run.
-func (r *runner) hand(l []api.Gift) bool {
+func (w *World) hand(l []api.Gift) bool {
 	for _, g := range l {
-		r.give(variable(g.Name), g.Text)
-		if r.over() {
+		w.Give(Variable(g.Name), g.Text)
+		if w.Over() {
 			return false
 		}
 	}

@@ -1,4 +1,4 @@
-package run
+package world
 
 import (
 	"cmp"
@@ -6,34 +6,45 @@ import (
 	"strings"
 
 	"scanfail/api"
+	"scanfail/pats"
 )
 
-// place is what can be given a text: a variable, or the item of a name and a key.
-type place struct {
+// Place is what can be given a text: a variable, or the item of a name and a key.
+type Place struct {
 	name, key string
 	item      bool
 }
 
-func variable(name string) place { return place{name: name} }
+// Variable is the place of a name.
+func Variable(name string) Place { return Place{name: name} }
 
-func itemOf(name, key string) place { return place{name: name, key: key, item: true} }
+// ItemOf is the place of a name and a key.
+func ItemOf(name, key string) Place { return Place{name: name, key: key, item: true} }
+
+// Named is the variable whose name a text is. It fails if it is none.
+func Named(text string) (Place, bool) {
+	if !pats.Named(text) {
+		return Place{}, false
+	}
+	return Variable(text), true
+}
 
 // cell is what a place has.
 type cell struct{ text string }
 
 // store keeps what places have; of those that have nothing there is no cell.
 type store struct {
-	cells map[place]cell
+	cells map[Place]cell
 	kept  int
 }
 
-func newStore() store { return store{cells: map[place]cell{}} }
+func newStore() store { return store{cells: map[Place]cell{}} }
 
 // has is what a place has; INPUT and OUTPUT never have anything.
-func (s *store) has(p place) string { return s.cells[p].text }
+func (s *store) has(p Place) string { return s.cells[p].text }
 
 // weight is how much is kept of a place that has a text.
-func weight(p place, text string) int {
+func weight(p Place, text string) int {
 	if text == "" {
 		return 0
 	}
@@ -41,7 +52,7 @@ func weight(p place, text string) int {
 }
 
 // put lets a place have a text, unless more would be kept then than may be. What is kept is cloned: a short piece would else hold the long text that it was cut from.
-func (s *store) put(p place, text string) bool {
+func (s *store) put(p Place, text string) bool {
 	kept := s.kept - weight(p, s.has(p)) + weight(p, text)
 	if kept > api.MaxStore {
 		return false
