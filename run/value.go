@@ -28,11 +28,8 @@ func (r *runner) value(x *api.Expr) (string, bool) {
 		if check.Builtin(x.Name) < 0 {
 			return r.call(x.Name, kids)
 		}
-		return world.Makes(x.Name, kids)
-	case api.ExNeg:
-		return world.Two(api.ExSub, "0", kids[0])
 	}
-	return world.Two(x.Kind, kids[0], kids[1])
+	return world.Worked(x, kids)
 }
 
 // values are what expressions have, unless one fails: those behind it are not worked out then.

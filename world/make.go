@@ -69,6 +69,17 @@ func Two(kind int, a, b string) (string, bool) {
 	return l.right(l.reckon(kind))
 }
 
+// Worked is what an expression that is an operator, or calls a function of the language, makes of its kids' texts.
+func Worked(x *api.Expr, kids []string) (string, bool) {
+	switch x.Kind {
+	case api.ExCall:
+		return Makes(x.Name, kids)
+	case api.ExNeg:
+		return Two(api.ExSub, "0", kids[0])
+	}
+	return Two(x.Kind, kids[0], kids[1])
+}
+
 // Makes is what a function of the language makes of texts, as many as it takes.
 func Makes(name string, l []string) (string, bool) {
 	a := arguments{texts: l}
